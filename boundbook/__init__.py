@@ -1,0 +1,1 @@
+"""Printed is written: a book set in pages, and its pages on folded sheets."""
