@@ -105,9 +105,8 @@ def settled(book):
     """Give the book's setting, or None if the book doesn't settle."""
     setting = unknown_setting(book)
     seen = {setting: True}
-    passes = 0
-    # The pass that shows a setting to stay doesn't come to another one, and isn't counted.
-    while passes <= MOST_PASSES:
+    # The pass that shows a setting to stay is one of those counted.
+    for made in range(MOST_PASSES):
         following = pass_of(book, setting)
         if following == setting:
             return setting
@@ -115,7 +114,6 @@ def settled(book):
             return None
         seen[following] = True
         setting = following
-        passes += 1
     return None
 
 

@@ -51,9 +51,9 @@ class Written:
         return where
 
     def settings(self):
-        """The settings that passes come to, up to the first one that comes again."""
+        """The settings that at most 400 passes come to, up to the first one that comes again."""
         come = [[0] * len(self.words)]
-        while come[-1] not in come[:-1] and len(come) < 402:
+        while come[-1] not in come[:-1] and len(come) < 401:
             come.append(self.one_pass(come[-1]))
         return come
 

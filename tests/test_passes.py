@@ -20,8 +20,8 @@ WIDE = 200
 FRAME = [WIDE, 2, 1, 1, 1, 1]
 MARKS = range(1, 21)
 WATCHER = 1
-RINGS = ((13, 5, 9), (2, 19, 8, 10), (11, 3, 6, 17, 15), (16, 14, 20, 7, 4, 12, 18))
-BEFORE = {mark: ring[k - 1] for ring in RINGS for k, mark in enumerate(ring)}
+ONE_WAY = ((14, 10, 15), (11, 4, 7, 19), (3, 8, 2, 6, 18), (20, 12, 5, 13, 9, 17, 16))
+OTHER_WAY = ((13, 5, 9), (2, 19, 8, 10), (11, 3, 6, 17, 15), (16, 14, 20, 7, 4, 12, 18))
 
 
 def lengths(mark):
@@ -37,13 +37,17 @@ def long(mark):
     return max(lengths(mark))
 
 
-def long_marks(count):
+def marks_before(rings):
+    return {mark: ring[k - 1] for ring in rings for k, mark in enumerate(ring)}
+
+
+def long_marks(before, count):
     """To which marks references are long behind so many passes, if the watcher finds nothing."""
     moved = {mark: 0 for mark in MARKS}
     for k in range(count):
-        is_long = [mark for mark in BEFORE if lengths(mark)[moved[mark]] == long(mark)]
-        moved = {mark: int(BEFORE.get(mark) in is_long) for mark in MARKS}
-    return [mark for mark in BEFORE if lengths(mark)[moved[mark]] == long(mark)]
+        is_long = [mark for mark in before if lengths(mark)[moved[mark]] == long(mark)]
+        moved = {mark: int(before.get(mark) in is_long) for mark in MARKS}
+    return [mark for mark in before if lengths(mark)[moved[mark]] == long(mark)]
 
 
 def page_pair(mark, references, room):
@@ -58,24 +62,30 @@ def watcher_pages(watched):
     return page_pair(WATCHER, watched + [WATCHER] * again, room)
 
 
-def ring_pages(mark):
-    before = BEFORE[mark]
+def ring_pages(mark, before):
     return page_pair(mark, [before, WATCHER], short(before) + 1 + short(WATCHER) + 1)
 
 
-def book_that_watches(count):
-    return [watcher_pages(long_marks(count)) if mark == WATCHER else ring_pages(mark) for mark in MARKS]
+def book_that_watches(rings, count):
+    before = marks_before(rings)
+    watcher = watcher_pages(long_marks(before, count))
+    return [watcher if mark == WATCHER else ring_pages(mark, before[mark]) for mark in MARKS]
+
+
+ASKING = (settles(), sheets())
 
 
 def answers_for(paragraphs):
+    """What each call answers that asks about the book's setting."""
     calls = [para(words, begins_page) for begins_page, words in paragraphs]
-    return ask(begins(*FRAME), *calls, settles(), sheets())
+    return ask(begins(*FRAME), *calls, *ASKING)[-len(ASKING):]
 
 
 def passes_needed(paragraphs):
+    """How many passes it takes until one gives the setting that it was made of once more."""
     book = Written(FRAME, paragraphs)
     pages = [0] * len(book.words)
-    passes = 0
+    passes = 1
     while book.one_pass(pages) != pages:
         pages = book.one_pass(pages)
         passes += 1
@@ -84,24 +94,25 @@ def passes_needed(paragraphs):
 
 class TestHowManyPasses(unittest.TestCase):
     def test_within_400_passes(self):
-        for count, passes in ((393, 396), (397, 400)):
-            paragraphs = book_that_watches(count)
+        for rings, count, passes in ((OTHER_WAY, 393, 397), (ONE_WAY, 396, 400)):
+            paragraphs = book_that_watches(rings, count)
             self.assertEqual(passes_needed(paragraphs), passes)
             given = answers_for(paragraphs)
             expected = Written(FRAME, paragraphs).answer()
             self.assertEqual(expected[0], 40)
-            self.assertEqual(given[-2:], [expected, [10, 10, 0]])
+            self.assertEqual(given[:2], [expected, [10, 10, 0]])
 
     def test_behind_400_passes(self):
-        paragraphs = book_that_watches(398)
-        self.assertEqual(passes_needed(paragraphs), 401)
-        self.assertEqual(answers_for(paragraphs)[-2:], [[-7], [-7]])
+        for count, passes in ((397, 401), (398, 402)):
+            paragraphs = book_that_watches(OTHER_WAY, count)
+            self.assertEqual(passes_needed(paragraphs), passes)
+            self.assertEqual(answers_for(paragraphs), [[-7]] * len(ASKING))
 
-    def test_the_pass_that_changes_nothing_is_not_counted(self):
+    def test_the_pass_that_shows_a_setting_to_stay_is_counted(self):
         calls = [begins(4, 1, 10), para([digits(1), plain(2, 1)]), settles()]
-        with mock.patch.object(setting, "MOST_PASSES", 2):
+        with mock.patch.object(setting, "MOST_PASSES", 3):
             self.assertEqual(last(*calls), [2, 10, 11])
-        with mock.patch.object(setting, "MOST_PASSES", 1):
+        with mock.patch.object(setting, "MOST_PASSES", 2):
             self.assertEqual(last(*calls), [-7])
 
 
