@@ -1,4 +1,4 @@
-"""How sheets are made into gatherings."""
+"""How sheets are made into gatherings, and in which order one comes to their leaves."""
 
 from boundbook.plan import is_fold, pile_of
 
@@ -14,6 +14,13 @@ class Binding:
         self.pile = pile
         self.sheet_count = sheet_count
         self.within = within
+
+
+class BoundLeaf:
+    def __init__(self, sheet, leaf):
+        # Which sheet of its gathering the leaf is of.
+        self.sheet = sheet
+        self.leaf = leaf
 
 
 def first_binding():
@@ -39,3 +46,31 @@ def gathering_pages(binding):
 def gathering_count(binding, pages):
     size = gathering_pages(binding)
     return (pages + size - 1) // size
+
+
+def bound_leaves(sheet, leaves):
+    return [BoundLeaf(sheet, leaf) for leaf in leaves]
+
+
+def leaves_behind(pile, sheet_count):
+    leaves = []
+    for sheet in range(sheet_count):
+        leaves.extend(bound_leaves(sheet, pile))
+    return leaves
+
+
+def leaves_within(pile, sheet_count):
+    middle = len(pile) // 2
+    leaves = []
+    for sheet in range(sheet_count):
+        leaves.extend(bound_leaves(sheet, pile[:middle]))
+    for sheet in range(sheet_count - 1, -1, -1):
+        leaves.extend(bound_leaves(sheet, pile[middle:]))
+    return leaves
+
+
+def gathering_leaves(binding):
+    """Give a gathering's leaves in the order in which one comes to them by turning leaves."""
+    if binding.within == 1:
+        return leaves_within(binding.pile, binding.sheet_count)
+    return leaves_behind(binding.pile, binding.sheet_count)

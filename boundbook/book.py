@@ -86,3 +86,10 @@ def add_paragraph(book, begins_page, words):
             book.marked[word.own_mark] = number
     book.paragraphs.append(Paragraph(begins_page, words))
     book.word_count += len(words)
+
+
+def words_of(book):
+    words = []
+    for paragraph in book.paragraphs:
+        words.extend(paragraph.words)
+    return words

@@ -1,16 +1,18 @@
 """The calls on one book, handed in and answered as whole numbers one behind another."""
 
-from boundbook.binding import Binding, can_lie_within, first_binding, gathering_count, gathering_pages
-from boundbook.binding import sheet_count_fits, sheet_fits
+from boundbook.binding import Binding, can_lie_within, first_binding, gathering_pages, sheet_count_fits, sheet_fits
 from boundbook.book import Book, Frame, add_paragraph, first_frame, frame_fits, marks_are_new
 from boundbook.book import words_fit, words_have_room, words_told
 from boundbook.plan import pile_of
-from boundbook.setting import page_count, settled
+from boundbook.printing import Printed, blank_pages, gatherings_of_book, has_leaf, has_side, has_word
+from boundbook.printing import leaf_told, pages_of_book, references_told, side_told, word_found
+from boundbook.setting import settled
 
 OUT_OF_BOUNDS = -1
 MARK_TWICE = -3
 NO_LAST_FOLD = -4
 TOO_MANY_WORDS = -5
+NOT_THERE = -6
 UNSETTLED = -7
 
 
@@ -39,13 +41,6 @@ def answer_para(work, numbers):
     return [work.book.word_count]
 
 
-def answer_settles(work, numbers):
-    setting = settled(work.book)
-    if setting is None:
-        return [UNSETTLED]
-    return [page_count(work.book, setting)] + list(setting)
-
-
 def answer_bind(work, numbers):
     rows = numbers[0]
     columns = numbers[1]
@@ -64,24 +59,49 @@ def answer_bind(work, numbers):
     return [gathering_pages(work.binding)]
 
 
-def answer_sheets(work, numbers):
-    setting = settled(work.book)
-    if setting is None:
-        return [UNSETTLED]
-    pages = page_count(work.book, setting)
-    gatherings = gathering_count(work.binding, pages)
-    blank = gatherings * gathering_pages(work.binding) - pages
-    return [gatherings, gatherings * work.binding.sheet_count, blank]
+def answer_settles(printed, numbers):
+    return [pages_of_book(printed)] + list(printed.setting)
 
 
-# A call's number is its place here.
-CALLS = (answer_begins, answer_para, answer_settles, answer_bind, answer_sheets)
+def answer_sheets(printed, numbers):
+    gatherings = gatherings_of_book(printed)
+    return [gatherings, gatherings * printed.binding.sheet_count, blank_pages(printed)]
+
+
+def answer_side(printed, numbers):
+    if not has_side(printed, numbers[0], numbers[1], numbers[2]):
+        return [NOT_THERE]
+    return [0] + side_told(printed, numbers[0], numbers[1], numbers[2])
+
+
+def answer_find(printed, numbers):
+    if not has_word(printed, numbers[0]):
+        return [NOT_THERE]
+    return [0] + word_found(printed, numbers[0])
+
+
+def answer_leaf(printed, numbers):
+    if not has_leaf(printed, numbers[0], numbers[1]):
+        return [NOT_THERE]
+    return [0] + leaf_told(printed, numbers[0], numbers[1])
+
+
+def answer_refs(printed, numbers):
+    return references_told(printed)
+
+
+# By the calls' numbers: those that change the book or its sheets, and those that ask how it is printed.
+CHANGING = {0: answer_begins, 1: answer_para, 3: answer_bind}
+ASKING = {2: answer_settles, 4: answer_sheets, 5: answer_side, 6: answer_find, 7: answer_leaf, 8: answer_refs}
 
 
 def answer_to(work, call, numbers):
-    if call >= len(CALLS):
-        raise NotImplementedError("this call isn't built yet")
-    return CALLS[call](work, numbers)
+    if call in CHANGING:
+        return CHANGING[call](work, numbers)
+    setting = settled(work.book)
+    if setting is None:
+        return [UNSETTLED]
+    return ASKING[call](Printed(work.book, setting, work.binding), numbers)
 
 
 def answers(calls):

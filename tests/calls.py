@@ -34,6 +34,22 @@ def sheets():
     return call(4, [])
 
 
+def side(gathering, sheet, back):
+    return call(5, [gathering, sheet, back])
+
+
+def find(word):
+    return call(6, [word])
+
+
+def leaf(gathering, i):
+    return call(7, [gathering, i])
+
+
+def refs():
+    return call(8, [])
+
+
 def plain(length=1, own_mark=0):
     return (PLAIN, length, own_mark)
 

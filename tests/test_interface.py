@@ -1,7 +1,8 @@
 import unittest
 
 from boundbook.sheets import answers
-from tests.calls import bind, begins, digits, how_far, line_of, para, plain, roman, settles, sheets
+from tests.calls import begins, bind, digits, find, how_far, leaf, line_of, para, plain, refs, roman, settles, sheets
+from tests.calls import side
 
 MIXED = line_of([
     begins(10, 2, 8, 4, 9, 3),
@@ -10,6 +11,14 @@ MIXED = line_of([
     settles(),
     bind(2, 2, [0, 2], 2, 1),
     sheets(),
+    side(0, 0, 0),
+    side(0, 0, 1),
+    find(4),
+    leaf(0, 0),
+    refs(),
+    side(1, 0, 0),
+    find(5),
+    leaf(0, 8),
     para([]),
     para([plain(1, 1)]),
     bind(1, 2, [8], 1, 1),
@@ -28,6 +37,14 @@ class TestInterface(unittest.TestCase):
             6, 2, 8, 8, 8, 9, 9,
             1, 16,
             3, 1, 2, 14,
+            9, 0, 0, 1, 9, 1, 0, 0, 0, 0,
+            9, 0, 8, 1, 0, 1, 0, 0, 0, 0,
+            9, 0, 9, 1, 0, 0, 0, 1, 0, 1,
+            10, 0, 8, 3, 0, 1, 2, 9, 2, 3, 4,
+            10, 3, 1, 9, 1, 2, 8, 1, 3, 9, 1,
+            1, -6,
+            1, -6,
+            1, -6,
             1, -1,
             1, -3,
             1, -4,
@@ -60,7 +77,8 @@ class TestInterface(unittest.TestCase):
         self.assertEqual(answers(MIXED), first_copy)
         first.clear()
         self.assertEqual(answers(MIXED), first_copy)
-        self.assertEqual(answers(line_of([settles(), sheets()])), [1, 0, 3, 0, 0, 0])
+        self.assertEqual(answers(line_of([settles(), sheets(), side(0, 0, 0), find(0), leaf(0, 0), refs()])),
+                         [1, 0, 3, 0, 0, 0, 1, -6, 1, -6, 1, -6, 1, 0])
 
     def test_forty_calls(self):
         calls = [begins()] + [para([plain()] * 5) for k in range(38)] + [settles()]

@@ -35,7 +35,8 @@ class Written:
         far = page - setting[number]
         return {0: "h" * self.here, 1: "n" * self.ahead}.get(far, "b" * self.before + str(page))
 
-    def one_pass(self, setting):
+    def lines(self, setting):
+        """In which line each word stands."""
         lines, where, number = [], [], 0
         for begins_page, words in self.paragraphs:
             while begins_page and len(lines) % self.high:
@@ -46,9 +47,12 @@ class Written:
                     lines[-1] += " " + text
                 else:
                     lines.append(text)
-                where.append(self.first + (len(lines) - 1) // self.high)
+                where.append(len(lines) - 1)
                 number += 1
         return where
+
+    def one_pass(self, setting):
+        return [self.first + line // self.high for line in self.lines(setting)]
 
     def settings(self):
         """The settings that at most 400 passes come to, up to the first one that comes again."""

@@ -12,7 +12,7 @@ import unittest
 from unittest import mock
 
 from boundbook import setting
-from tests.calls import ask, begins, digits, last, para, plain, roman, settles, sheets
+from tests.calls import ask, begins, digits, find, last, leaf, para, plain, refs, roman, settles, sheets, side
 from tests.test_model import Written
 from tests.test_settles import roman_numeral
 
@@ -72,7 +72,7 @@ def book_that_watches(rings, count):
     return [watcher if mark == WATCHER else ring_pages(mark, before[mark]) for mark in MARKS]
 
 
-ASKING = (settles(), sheets())
+ASKING = (settles(), sheets(), side(0, 0, 0), find(0), leaf(0, 0), refs())
 
 
 def answers_for(paragraphs):
@@ -101,6 +101,7 @@ class TestHowManyPasses(unittest.TestCase):
             expected = Written(FRAME, paragraphs).answer()
             self.assertEqual(expected[0], 40)
             self.assertEqual(given[:2], [expected, [10, 10, 0]])
+            self.assertEqual([answer[0] for answer in given[2:5]], [0, 0, 0])
 
     def test_behind_400_passes(self):
         for count, passes in ((397, 401), (398, 402)):

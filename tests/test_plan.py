@@ -58,55 +58,59 @@ class TestStepsTogether(unittest.TestCase):
         self.assertEqual(len(pile(4, 8, [0, 2, 8, 6, 1])), 32)
 
 
+def move_leaf(leaf, step, size, height):
+    axis = 0 if step % 4 < 2 else 1
+    middle = size[axis] // 2
+    first_half = leaf["at"][axis] < middle
+    if first_half != (step % 2 == 0):
+        leaf["at"][axis] %= middle
+        leaf["z"] += height if 4 <= step < 8 else 0
+        return
+    if step >= 8:
+        leaf["at"][axis] %= middle
+        leaf["z"] += height
+        return
+    leaf["at"][axis] = (size[axis] - 1 - leaf["at"][axis]) % middle
+    leaf["back"] ^= 1
+    leaf["head"] ^= axis
+    leaf["z"] = height - 1 - leaf["z"] + (height if step < 4 else 0)
+
+
+def pile_by_moving(rows, columns, steps):
+    """The pile once more, told by where each single leaf comes to lie."""
+    leaves = [{"row": r, "column": c, "at": [c, r], "z": 0, "back": 0, "head": 0}
+              for r in range(rows) for c in range(columns)]
+    size = [columns, rows]
+    height = 1
+    for step in steps:
+        for leaf in leaves:
+            move_leaf(leaf, step, size, height)
+        size[0 if step % 4 < 2 else 1] //= 2
+        height *= 2
+    assert sorted(leaf["z"] for leaf in leaves) == list(range(rows * columns))
+    leaves.sort(key=lambda leaf: -leaf["z"])
+    return [(leaf["row"], leaf["column"], leaf["back"], leaf["head"]) for leaf in leaves]
+
+
+def plans(rows, columns):
+    """Every plan there is for such a sheet."""
+    if rows == 1 and columns == 1:
+        yield []
+    for step in range(12):
+        if step % 4 < 2 and columns > 1:
+            for rest in plans(rows, columns // 2):
+                yield [step] + rest
+        if step % 4 >= 2 and rows > 1:
+            for rest in plans(rows // 2, columns):
+                yield [step] + rest
+
+
 class TestAgainstMovingEachLeaf(unittest.TestCase):
-    """The same plans, told by where each single leaf comes to lie."""
-
-    def moved(self, leaf, step, size, height):
-        axis = 0 if step % 4 < 2 else 1
-        middle = size[axis] // 2
-        first_half = leaf["at"][axis] < middle
-        if first_half != (step % 2 == 0):
-            leaf["at"][axis] %= middle
-            leaf["z"] += height if 4 <= step < 8 else 0
-            return
-        if step >= 8:
-            leaf["at"][axis] %= middle
-            leaf["z"] += height
-            return
-        leaf["at"][axis] = (size[axis] - 1 - leaf["at"][axis]) % middle
-        leaf["back"] ^= 1
-        leaf["head"] ^= axis
-        leaf["z"] = height - 1 - leaf["z"] + (height if step < 4 else 0)
-
-    def pile(self, rows, columns, steps):
-        leaves = [{"row": r, "column": c, "at": [c, r], "z": 0, "back": 0, "head": 0}
-                  for r in range(rows) for c in range(columns)]
-        size = [columns, rows]
-        height = 1
-        for step in steps:
-            for leaf in leaves:
-                self.moved(leaf, step, size, height)
-            size[0 if step % 4 < 2 else 1] //= 2
-            height *= 2
-        self.assertEqual(sorted(leaf["z"] for leaf in leaves), list(range(rows * columns)))
-        leaves.sort(key=lambda leaf: -leaf["z"])
-        return [(leaf["row"], leaf["column"], leaf["back"], leaf["head"]) for leaf in leaves]
-
-    def plans(self, rows, columns):
-        if rows == 1 and columns == 1:
-            yield []
-        for step in range(12):
-            if step % 4 < 2 and columns > 1:
-                for rest in self.plans(rows, columns // 2):
-                    yield [step] + rest
-            if step % 4 >= 2 and rows > 1:
-                for rest in self.plans(rows // 2, columns):
-                    yield [step] + rest
-
     def test_every_plan_of_up_to_eight_places(self):
         for rows, columns in ((1, 2), (2, 1), (2, 2), (1, 4), (4, 1), (2, 4), (4, 2), (1, 8), (8, 1)):
-            for steps in self.plans(rows, columns):
-                self.assertEqual(pile(rows, columns, steps), self.pile(rows, columns, steps), (rows, columns, steps))
+            for steps in plans(rows, columns):
+                expected = pile_by_moving(rows, columns, steps)
+                self.assertEqual(pile(rows, columns, steps), expected, (rows, columns, steps))
 
 
 class TestPlansThatCannotBe(unittest.TestCase):
